@@ -19,6 +19,20 @@ func toOctet(n int) (octet, bool) {
 	return octet(n), true
 }
 
+func isByte(n int) bool {
+	_, ok := toOctet(n)
+	return ok
+}
+
+func allBytes(list []int) bool {
+	for _, n := range list {
+		if !isByte(n) {
+			return false
+		}
+	}
+	return true
+}
+
 func toOctets(a int, b int) (octet, octet, bool) {
 	first, ok := toOctet(a)
 	if !ok {
